@@ -1,0 +1,1 @@
+"""Borders round a field. The calls are in rugborders.borders."""

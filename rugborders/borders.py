@@ -1,0 +1,132 @@
+"""The calls: borders of a kind, with a strip L wide and h high, round a field W wide and H high."""
+
+from rugborders.charts import chart_of, is_chart_size, is_side, is_too_long, text_of
+
+SET = 0
+MET = 1
+RUN = 2
+
+MOST_DEPTH = 128
+
+OF_FIELD = 0
+OF_STRIP = 1
+OF_CORNER = 2
+
+
+def fits(kind, L, h, W, H):
+    """[1] if the border fits round the field, [0] if not, or the refusal."""
+    if not in_bounds(kind, L, h, W, H):
+        return [-1]
+    if comes_out(kind, L, h, W, H):
+        return [1]
+    return [0]
+
+
+def round_of(kind, t, s, c):
+    """How many bytes the rug's text has, and they, or the refusal."""
+    if is_too_long(t) or is_too_long(s) or is_too_long(c):
+        return [-2]
+    field = chart_of(t)
+    strip = chart_of(s)
+    # No bytes say that there is no corner; they are no wrong chart.
+    corner = chart_of(c) if c else []
+    if field is None or strip is None or corner is None:
+        return [-6]
+    refusal = round_refusal(kind, field, strip, corner)
+    if refusal < 0:
+        return [refusal]
+    text = text_of(rug_of(kind, field, strip, corner))
+    return [len(text)] + text
+
+
+def in_bounds(kind, L, h, W, H):
+    """Whether the kind, the lengths and the depth are such as are answered."""
+    if kind > RUN or not 1 <= h <= MOST_DEPTH:
+        return False
+    return is_side(L) and is_side(W) and is_side(H)
+
+
+def comes_out(kind, L, h, W, H):
+    """Whether whole strips come out along every side."""
+    if kind == SET:
+        return W % L == 0 and H % L == 0
+    if kind == MET:
+        return (W + 2 * h) % (2 * L) == 0 and (H + 2 * h) % (2 * L) == 0
+    return (W + h) % L == 0 and (H + h) % L == 0
+
+
+def is_right_corner(kind, corner, h):
+    """Whether the corner (no rows if there is none) goes with the kind and the depth."""
+    if kind != SET:
+        return not corner
+    return len(corner) == h and len(corner[0]) == h
+
+
+def round_refusal(kind, field, strip, corner):
+    """The first refusal of charts that are right by themselves, or 0."""
+    L = len(strip[0])
+    h = len(strip)
+    W = len(field[0])
+    H = len(field)
+    if not in_bounds(kind, L, h, W, H) or not is_right_corner(kind, corner, h):
+        return -1
+    if not comes_out(kind, L, h, W, H):
+        return -3
+    if not is_chart_size(W + 2 * h, H + 2 * h):
+        return -8
+    return 0
+
+
+def rug_of(kind, field, strip, corner):
+    """The chart of the field with the border round it."""
+    L = len(strip[0])
+    h = len(strip)
+    W = len(field[0])
+    H = len(field)
+    # In the order of OF_FIELD, OF_STRIP and OF_CORNER.
+    sources = (field, strip, corner)
+    rug = []
+    for y in range(H + 2 * h):
+        row = []
+        for x in range(W + 2 * h):
+            knot = knot_of(kind, L, h, W, H, x, y)
+            row.append(sources[knot[0]][knot[2]][knot[1]])
+        rug.append(row)
+    return rug
+
+
+def knot_of(kind, L, h, W, H, x, y):
+    """What knot (x, y) of the rug is: of which chart, and that one's x and y."""
+    if h <= x < W + h and h <= y < H + h:
+        return (OF_FIELD, x - h, y - h)
+    if kind == MET:
+        u = min(x, W + 2 * h - 1 - x)
+        v = min(y, H + 2 * h - 1 - y)
+        return (OF_STRIP, max(u, v) % L, min(u, v))
+    seen = seen_from_side(h, W, H, x, y)
+    along = seen[0]
+    inward = seen[1]
+    if kind == RUN:
+        return (OF_STRIP, along % L, inward)
+    if along < h:
+        return (OF_CORNER, along, inward)
+    return (OF_STRIP, (along - h) % L, inward)
+
+
+def seen_from_side(h, W, H, x, y):
+    """How far along its side, clockwise, and how far inward a knot of the border lies.
+
+    Each side has the corner it begins with and not the one it ends at. So a
+    run border's strips do not overlap, and a set border's corner, seen from
+    the side it begins, is the corner chart as it is: the corners' motions are
+    those of the sides.
+    """
+    wide = W + 2 * h
+    high = H + 2 * h
+    if x < W + h and y < h:
+        return (x, y)
+    if x >= W + h and y < H + h:
+        return (y, wide - 1 - x)
+    if x >= h and y >= H + h:
+        return (wide - 1 - x, high - 1 - y)
+    return (high - 1 - y, x)
