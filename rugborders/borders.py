@@ -35,13 +35,46 @@ def round_of(kind, t, s, c):
     refusal = round_refusal(kind, field, strip, corner)
     if refusal < 0:
         return [refusal]
-    text = text_of(rug_of(kind, field, strip, corner))
+    return told_text(rug_of(kind, field, strip, corner))
+
+
+def from_of(kind, L, h, W, H, x, y):
+    """0, of which chart knot (x, y) of the rug is and that one's x and y, or the refusal."""
+    if not in_bounds(kind, L, h, W, H):
+        return [-1]
+    if not comes_out(kind, L, h, W, H):
+        return [-3]
+    if x >= W + 2 * h or y >= H + 2 * h:
+        return [-4]
+    return [0] + list(knot_of(kind, L, h, W, H, x, y))
+
+
+def off(h, t):
+    """How many bytes the text of the field within a depth of h has, and they, or the refusal."""
+    if is_too_long(t):
+        return [-2]
+    rug = chart_of(t)
+    if rug is None:
+        return [-6]
+    if not leaves_field(h, rug):
+        return [-1]
+    return told_text(field_within(h, rug))
+
+
+def told_text(chart):
+    """How many bytes the chart's text has, and they."""
+    text = text_of(chart)
     return [len(text)] + text
+
+
+def is_depth(h):
+    """Whether a border may be so deep."""
+    return 1 <= h <= MOST_DEPTH
 
 
 def in_bounds(kind, L, h, W, H):
     """Whether the kind, the lengths and the depth are such as are answered."""
-    if kind > RUN or not 1 <= h <= MOST_DEPTH:
+    if kind > RUN or not is_depth(h):
         return False
     return is_side(L) and is_side(W) and is_side(H)
 
@@ -60,6 +93,11 @@ def is_right_corner(kind, corner, h):
     if kind != SET:
         return not corner
     return len(corner) == h and len(corner[0]) == h
+
+
+def leaves_field(h, rug):
+    """Whether there can be a border of depth h in the rug, and a field within it."""
+    return is_depth(h) and 2 * h < len(rug[0]) and 2 * h < len(rug)
 
 
 def round_refusal(kind, field, strip, corner):
@@ -93,6 +131,11 @@ def rug_of(kind, field, strip, corner):
             row.append(sources[knot[0]][knot[2]][knot[1]])
         rug.append(row)
     return rug
+
+
+def field_within(h, rug):
+    """The chart of what is left of the rug without a border of depth h."""
+    return [row[h:len(row) - h] for row in rug[h:len(rug) - h]]
 
 
 def knot_of(kind, L, h, W, H, x, y):

@@ -3,8 +3,8 @@
 import unittest
 
 import words
-from rugborders.borders import fits, round_of
-from words import Untouched, answer, chart, plain, text, text_of
+from rugborders.borders import round_of
+from words import KeepsNothing, answer, chart, plain, small_borders, text, text_of
 
 
 class TheRun(unittest.TestCase):
@@ -69,17 +69,9 @@ class KnotByKnot(unittest.TestCase):
         self.assertEqual(told, [len(expected)] + expected)
 
     def test_every_small_border_that_fits(self):
-        held = [0, 0, 0]
-        for kind in range(3):
-            for L in range(1, 6):
-                for h in range(1, 5):
-                    for W in range(1, 9):
-                        for H in range(1, 9):
-                            if fits(kind, L, h, W, H) == [1]:
-                                corner = chart(h, h, 20) if kind == 0 else []
-                                self.hold(kind, chart(W, H, 36), chart(L, h), corner)
-                                held[kind] += 1
-        self.assertTrue(min(held) > 90, held)
+        for kind, L, h, W, H in small_borders():
+            corner = chart(h, h, 20) if kind == 0 else []
+            self.hold(kind, chart(W, H, 36), chart(L, h), corner)
 
     def test_with_a_colour_for_each_knot(self):
         # Strips and corners of more than one row, none like itself when turned or mirrored.
@@ -135,7 +127,9 @@ class KnotByKnot(unittest.TestCase):
             self.assertEqual(round_of(0, [byte, 10], [97, 10], [byte, 10])[:3], [12, byte, 97])
 
 
-class HandedIn(unittest.TestCase):
+class HandedIn(KeepsNothing, unittest.TestCase):
+    function = staticmethod(round_of)
+
     def calls(self):
         return [
             (0, text("0123/4567/"), text("ab/cd/"), text("ef/gh/")),
@@ -148,39 +142,10 @@ class HandedIn(unittest.TestCase):
             (7, plain(129, 512), plain(129, 512), plain(129, 512)),
         ]
 
-    def test_is_the_same_afterwards(self):
-        for call, before in zip(self.calls(), self.calls()):
-            round_of(*call)
-            self.assertEqual(call, before)
-
-    def test_is_not_changed_for_a_while(self):
-        for kind, t, s, c in self.calls():
-            told = round_of(kind, t, s, c)
-            self.assertEqual(round_of(kind, Untouched(t), Untouched(s), Untouched(c)), told)
-
     def test_one_list_handed_in_thrice(self):
         t = text("ab/cd/")
         self.assertEqual(round_of(0, t, t, t), answer("ababca/cdcddb/bdabca/accddb/bddcdc/acbaba/"))
         self.assertEqual(t, text("ab/cd/"))
-
-    def test_the_same_call_twice_answers_the_same(self):
-        first = [round_of(*call) for call in self.calls()]
-        again = [round_of(*call) for call in reversed(self.calls())]
-        self.assertEqual(first, list(reversed(again)))
-
-    def test_what_is_done_to_an_answer_is_not_kept(self):
-        for call in self.calls():
-            told = round_of(*call)
-            before = list(told)
-            told.reverse()
-            told.append(7)
-            self.assertEqual(round_of(*call), before)
-
-    def test_a_list_of_whole_numbers_is_answered(self):
-        for call in self.calls():
-            told = round_of(*call)
-            self.assertIs(type(told), list)
-            self.assertEqual({type(number) for number in told}, {int})
 
 
 if __name__ == "__main__":

@@ -3,33 +3,13 @@
 import unittest
 
 from rugborders.borders import round_of
-from words import answer, plain, text
+from words import NO_CHARTS, answer, plain, text
 
 LARGEST = 4294967295
 
 FIELD = text("ff/ff/")
 STRIP = text("ab/")
 CORNER = text("c/")
-
-NO_CHARTS = {
-    "no end": text("ab"),
-    "no end of the last row": text("ab/cd"),
-    "a shorter row": text("ab/c/"),
-    "a longer row": text("ab/cde/"),
-    "a shorter row at the top": text("a/bc/bc/"),
-    "an empty row alone": text("/"),
-    "empty rows alone": text("//"),
-    "an empty row at the top": text("/ab/"),
-    "an empty row within": text("ab//cd/"),
-    "an empty row at the end": text("ab//"),
-    "513 wide": plain(513, 1),
-    "513 high": plain(1, 513),
-    "65,538 knots, 331 wide": plain(331, 198),
-    "65,538 knots, 331 high": plain(198, 331),
-    "65,792 knots in 66,048 bytes": plain(257, 256),
-    "66,048 bytes of no row": [97] * 66048,
-    "66,048 bytes of row ends": [10] * 66048,
-}
 
 
 class TooLong(unittest.TestCase):
