@@ -1,6 +1,6 @@
 """The calls: borders of a kind, with a strip L wide and h high, round a field W wide and H high."""
 
-from rugborders.charts import chart_of, is_chart_size, is_side, is_too_long, text_of
+from rugborders.charts import FIRST_COLOUR, MOST_SIDE, chart_of, is_chart_size, is_side, is_too_long, text_of
 
 SET = 0
 MET = 1
@@ -29,13 +29,13 @@ def round_of(kind, t, s, c):
     field = chart_of(t)
     strip = chart_of(s)
     # No bytes say that there is no corner; they are no wrong chart.
-    corner = chart_of(c) if c else []
-    if field is None or strip is None or corner is None:
+    corner_chart = chart_of(c) if c else []
+    if field is None or strip is None or corner_chart is None:
         return [-6]
-    refusal = round_refusal(kind, field, strip, corner)
+    refusal = round_refusal(kind, field, strip, corner_chart)
     if refusal < 0:
         return [refusal]
-    return told_text(rug_of(kind, field, strip, corner))
+    return told_text(rug_of(kind, field, strip, corner_chart))
 
 
 def from_of(kind, L, h, W, H, x, y):
@@ -51,20 +51,54 @@ def from_of(kind, L, h, W, H, x, y):
 
 def off(h, t):
     """How many bytes the text of the field within a depth of h has, and they, or the refusal."""
-    if is_too_long(t):
-        return [-2]
-    rug = chart_of(t)
-    if rug is None:
-        return [-6]
-    if not leaves_field(h, rug):
+    read = read_rug(h, t)
+    if read[0] < 0:
+        return [read[0]]
+    return told_text(field_within(h, read[1]))
+
+
+def found(h, kind, t):
+    """How many bytes the text of the shortest strip that makes the border has, and they, or the refusal."""
+    read = read_rug(h, t)
+    if read[0] < 0:
+        return [read[0]]
+    # Told as a depth out of bounds is, so that it may stand behind that.
+    if kind > RUN:
         return [-1]
-    return told_text(field_within(h, rug))
+    return told_if_any(shortest_strip(kind, h, read[1]))
+
+
+def corner(h, t):
+    """How many bytes the text of the corner that makes all four has, and they, or the refusal."""
+    read = read_rug(h, t)
+    if read[0] < 0:
+        return [read[0]]
+    return told_if_any(gathered(OF_CORNER, h, SET, h, read[1]))
 
 
 def told_text(chart):
     """How many bytes the chart's text has, and they."""
     text = text_of(chart)
     return [len(text)] + text
+
+
+def told_if_any(chart):
+    """How many bytes the chart's text has, and they, or the refusal if there is no chart."""
+    if chart is None:
+        return [-5]
+    return told_text(chart)
+
+
+def read_rug(h, t):
+    """0 and the chart of a rug that can have a border of depth h, or the refusal and None."""
+    if is_too_long(t):
+        return (-2, None)
+    rug = chart_of(t)
+    if rug is None:
+        return (-6, None)
+    if not leaves_field(h, rug):
+        return (-1, None)
+    return (0, rug)
 
 
 def is_depth(h):
@@ -88,11 +122,11 @@ def comes_out(kind, L, h, W, H):
     return (W + h) % L == 0 and (H + h) % L == 0
 
 
-def is_right_corner(kind, corner, h):
+def is_right_corner(kind, corner_chart, h):
     """Whether the corner (no rows if there is none) goes with the kind and the depth."""
     if kind != SET:
-        return not corner
-    return len(corner) == h and len(corner[0]) == h
+        return not corner_chart
+    return len(corner_chart) == h and len(corner_chart[0]) == h
 
 
 def leaves_field(h, rug):
@@ -100,13 +134,13 @@ def leaves_field(h, rug):
     return is_depth(h) and 2 * h < len(rug[0]) and 2 * h < len(rug)
 
 
-def round_refusal(kind, field, strip, corner):
+def round_refusal(kind, field, strip, corner_chart):
     """The first refusal of charts that are right by themselves, or 0."""
     L = len(strip[0])
     h = len(strip)
     W = len(field[0])
     H = len(field)
-    if not in_bounds(kind, L, h, W, H) or not is_right_corner(kind, corner, h):
+    if not in_bounds(kind, L, h, W, H) or not is_right_corner(kind, corner_chart, h):
         return -1
     if not comes_out(kind, L, h, W, H):
         return -3
@@ -115,14 +149,14 @@ def round_refusal(kind, field, strip, corner):
     return 0
 
 
-def rug_of(kind, field, strip, corner):
+def rug_of(kind, field, strip, corner_chart):
     """The chart of the field with the border round it."""
     L = len(strip[0])
     h = len(strip)
     W = len(field[0])
     H = len(field)
     # In the order of OF_FIELD, OF_STRIP and OF_CORNER.
-    sources = (field, strip, corner)
+    sources = (field, strip, corner_chart)
     rug = []
     for y in range(H + 2 * h):
         row = []
@@ -136,6 +170,67 @@ def rug_of(kind, field, strip, corner):
 def field_within(h, rug):
     """The chart of what is left of the rug without a border of depth h."""
     return [row[h:len(row) - h] for row in rug[h:len(rug) - h]]
+
+
+def shortest_strip(kind, h, rug):
+    """The chart of the shortest strip that makes the border of depth h in the rug, or None if none does."""
+    W = len(rug[0]) - 2 * h
+    H = len(rug) - 2 * h
+    if kind == SET and gathered(OF_CORNER, h, kind, h, rug) is None:
+        return None
+    # A strip this long never begins anew on its way along a side.
+    unwound = gathered(OF_STRIP, max(W, H) + 2 * h, kind, h, rug)
+    if unwound is None:
+        return None
+    for L in range(1, MOST_SIDE + 1):
+        if comes_out(kind, L, h, W, H):
+            strip = folded(L, unwound)
+            if strip is not None:
+                return all_coloured(strip)
+    return None
+
+
+def gathered(source, width, kind, h, rug):
+    """The strip or the corner, so wide, that makes all of the rug's knots that are of it, or None if none does.
+
+    A knot of it that no knot of the rug is stays None.
+    """
+    W = len(rug[0]) - 2 * h
+    H = len(rug) - 2 * h
+    chart = [[None] * width for row in range(h)]
+    for y, row in enumerate(rug):
+        for x, colour in enumerate(row):
+            knot = knot_of(kind, width, h, W, H, x, y)
+            if knot[0] == source and not takes_colour(chart[knot[2]], knot[1], colour):
+                return None
+    return chart
+
+
+def folded(L, unwound):
+    """The strip L wide that comes to the unwound one when it begins anew again and again, or None if none does."""
+    strip = []
+    for unwound_row in unwound:
+        row = [None] * L
+        for i, colour in enumerate(unwound_row):
+            if colour is not None and not takes_colour(row, i % L, colour):
+                return None
+        strip.append(row)
+    return strip
+
+
+def takes_colour(row, x, colour):
+    """Whether the row's knot x, which gets the colour if it has none yet, is of that colour."""
+    if row[x] is None:
+        row[x] = colour
+    return row[x] == colour
+
+
+def all_coloured(strip):
+    """The strip with the first colour where none is known."""
+    coloured = []
+    for row in strip:
+        coloured.append([FIRST_COLOUR if colour is None else colour for colour in row])
+    return coloured
 
 
 def knot_of(kind, L, h, W, H, x, y):

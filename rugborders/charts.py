@@ -1,6 +1,8 @@
 """Charts, kept as lists of rows of colour bytes, and their texts."""
 
 ROW_END = 10
+# The colour a, which is numbered 0.
+FIRST_COLOUR = 97
 MOST_SIDE = 512
 MOST_KNOTS = 65536
 # The longest text of a right chart: 512 rows of 128 knots, each with its end.

@@ -3,11 +3,7 @@
 import unittest
 
 from rugborders.borders import off, round_of
-from words import NO_CHARTS, KeepsNothing, answer, chart, plain, small_borders, text, text_of
-
-LARGEST = 4294967295
-
-RUG = text("abcd/efgh/ijkl/mnop/")
+from words import KeepsNothing, RefusesRugs, answer, chart, plain, small_borders, text, text_of
 
 
 class WhatIsLeft(unittest.TestCase):
@@ -85,62 +81,11 @@ class UndoesRound(unittest.TestCase):
         self.assertEqual(off(4, third[1:]), answer("ff/gg/"))
 
 
-class Refused(unittest.TestCase):
-    def test_too_long(self):
-        long = plain(128, 512) + [97]
-        self.assertEqual(len(long), 66049)
-        self.assertEqual(off(1, long), [-2])
-        for byte in (0, 10, 97, 255):
-            self.assertEqual(off(1, [byte] * 66049), [-2])
-            self.assertEqual(off(1, [byte] * 70000), [-2])
-        # 513 rows of 128: more than 66,048 bytes, and too high.
-        self.assertEqual(off(1, plain(128, 513)), [-2])
+class Refused(RefusesRugs, unittest.TestCase):
+    ways = [off]
 
-    def test_66048_bytes_are_not_too_long(self):
-        longest = plain(128, 512)
-        self.assertEqual(len(longest), 66048)
-        self.assertEqual(off(1, longest), [127 * 510] + plain(126, 510))
-
-    def test_no_right_chart(self):
-        for name, wrong in NO_CHARTS.items():
-            with self.subTest(name):
-                self.assertEqual(off(1, wrong), [-6])
-        self.assertEqual(off(1, []), [-6])
-
-    def test_a_fault_in_the_border_or_the_field(self):
-        for place in range(len(RUG)):
-            for byte in (0, 9, 11, 13, 32, 47, 58, 64, 91, 96, 123, 128, 225, 255):
-                self.assertEqual(off(1, RUG[:place] + [byte] + RUG[place + 1:]), [-6])
-            # A knot or a row's end too few, or one too many.
-            self.assertEqual(off(1, RUG[:place] + RUG[place + 1:]), [-6])
-            self.assertEqual(off(1, RUG[:place] + [97] + RUG[place:]), [-6])
-
-    def test_depth(self):
-        for rug in (RUG, text("abc/def/ghi/"), text("a/"), plain(512, 128), plain(256, 256), plain(128, 512)):
-            for h in (0, 128, 129, 256, 512, 2147483648, LARGEST):
-                self.assertEqual(off(h, rug), [-1])
-
-    def test_half_the_width_or_the_height(self):
-        # Rugs 2 h wide or high, then 2 h - 1.
-        for h in (1, 2, 3, 20, 64):
-            for narrow in (2 * h, 2 * h - 1):
-                for wide in (narrow, 2 * h + 1, 2 * h + 2, 500):
-                    self.assertEqual(off(h, plain(narrow, wide)), [-1])
-                    self.assertEqual(off(h, plain(wide, narrow)), [-1])
-            self.assertEqual(off(h, plain(2 * h + 1, 2 * h + 1)), answer("a/"))
-
-    def test_too_long_ahead_of_all(self):
-        for h in (0, 129, LARGEST):
-            self.assertEqual(off(h, plain(128, 512) + [97]), [-2])
-            self.assertEqual(off(h, [0] * 70000), [-2])
-
-    def test_no_right_chart_ahead_of_depth(self):
-        for h in (0, 2, 129, LARGEST):
-            self.assertEqual(off(h, text("abc/def/gh/")), [-6])
-            self.assertEqual(off(h, text("abc/def/ghi")), [-6])
-            self.assertEqual(off(h, []), [-6])
-            for wrong in NO_CHARTS.values():
-                self.assertEqual(off(h, wrong), [-6])
+    def test_the_longest_text(self):
+        self.assertEqual(off(1, plain(128, 512)), [127 * 510] + plain(126, 510))
 
 
 class HandedIn(KeepsNothing, unittest.TestCase):
