@@ -8,6 +8,10 @@ RUN = 2
 
 MOST_DEPTH = 128
 
+# A row of borders tells each one's kind, length and depth.
+NUMBERS_OF_BORDER = 3
+MOST_NUMBERS = 48
+
 OF_FIELD = 0
 OF_STRIP = 1
 OF_CORNER = 2
@@ -76,6 +80,21 @@ def corner(h, t):
     return told_if_any(gathered(OF_CORNER, h, SET, h, read[1]))
 
 
+def sizes(p, q, W, H, borders):
+    """0, the least width and the least height round which all the borders fit, or the refusal."""
+    if len(borders) > MOST_NUMBERS:
+        return [-2]
+    if not is_side(p) or not is_side(q) or not is_side(W) or not is_side(H):
+        return [-1]
+    if not are_borders(borders):
+        return [-1]
+    W0 = least_side(p, W, borders)
+    H0 = least_side(q, H, borders)
+    if W0 is None or H0 is None:
+        return [-5]
+    return [0, W0, H0]
+
+
 def told_text(chart):
     """How many bytes the chart's text has, and they."""
     text = text_of(chart)
@@ -106,20 +125,57 @@ def is_depth(h):
     return 1 <= h <= MOST_DEPTH
 
 
-def in_bounds(kind, L, h, W, H):
-    """Whether the kind, the lengths and the depth are such as are answered."""
-    if kind > RUN or not is_depth(h):
+def is_border(kind, L, h):
+    """Whether the kind, the length and the depth of a border are such as are answered."""
+    return kind <= RUN and is_side(L) and is_depth(h)
+
+
+def are_borders(numbers):
+    """Whether the numbers are those of borders one behind another, none of them cut short."""
+    if len(numbers) % NUMBERS_OF_BORDER != 0:
         return False
-    return is_side(L) and is_side(W) and is_side(H)
+    for at in range(0, len(numbers), NUMBERS_OF_BORDER):
+        if not is_border(numbers[at], numbers[at + 1], numbers[at + 2]):
+            return False
+    return True
+
+
+def in_bounds(kind, L, h, W, H):
+    """Whether the border and the field's sides are such as are answered."""
+    return is_border(kind, L, h) and is_side(W) and is_side(H)
 
 
 def comes_out(kind, L, h, W, H):
     """Whether whole strips come out along every side."""
+    return comes_out_along(kind, L, h, W) and comes_out_along(kind, L, h, H)
+
+
+def comes_out_along(kind, L, h, side):
+    """Whether whole strips come out along a field's side."""
     if kind == SET:
-        return W % L == 0 and H % L == 0
+        return side % L == 0
     if kind == MET:
-        return (W + 2 * h) % (2 * L) == 0 and (H + 2 * h) % (2 * L) == 0
-    return (W + h) % L == 0 and (H + h) % L == 0
+        return (side + 2 * h) % (2 * L) == 0
+    return (side + h) % L == 0
+
+
+def least_side(step, least, borders):
+    """The least side of a field, by its step and its least size, round which all the borders fit, or None."""
+    for side in range(step, MOST_SIDE + 1, step):
+        if side >= least and all_come_out(side, borders):
+            return side
+    return None
+
+
+def all_come_out(side, borders):
+    """Whether the borders fit along the side, each round what is within, and the whole is not too large."""
+    whole = side
+    for at in range(0, len(borders), NUMBERS_OF_BORDER):
+        h = borders[at + 2]
+        if not comes_out_along(borders[at], borders[at + 1], h, whole):
+            return False
+        whole += 2 * h
+    return whole <= MOST_SIDE
 
 
 def is_right_corner(kind, corner_chart, h):
